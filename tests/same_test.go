@@ -35,6 +35,20 @@ func answersOf(seed uint64, text []byte) []any {
 	list = append(list, impl.CmpAlong(p[0], p[1], p[2], p[3]), impl.CmpDist(p[0], p[1], p[2]))
 	three(impl.FOrient3(p[0], p[1], p[2], p[3]))
 	three(impl.FInCircle(s[0], s[1], s[2], s[3]))
+	return append(list, lineAnswersOf(seed)...)
+}
+
+func lineAnswersOf(seed uint64) []any {
+	s := &spots{dice(seed), int(seed % spotKinds)}
+	a, b, c, one, two := s.place(), s.place(), s.place(), s.seg(), s.seg()
+	list := []any{impl.VOk(a), impl.SegOk(one), impl.CmpV(a, b), impl.Turn(a, b, c), impl.OnSeg(a, one)}
+	pair := func(x any, y any) { list = append(list, x, y) }
+	kind, low, high := impl.Meet(one, two)
+	list = append(list, kind, low, high)
+	pair(impl.Foot(a, one))
+	pair(impl.Near(a, one))
+	pair(impl.Dist2(a, one))
+	pair(impl.SortAlong(a, []impl.V{b, c, one.A, one.B, two.A, two.B}))
 	return list
 }
 
