@@ -189,16 +189,22 @@ func borderOf(edges []pointEdge, inside func(point) bool) []pointEdge {
 	return list
 }
 
-func walkBorder(border []pointEdge) [][]point {
-	next := make([]int, len(border))
-	for i, p := range border {
+// nextOf tells which piece goes behind each one.
+func nextOf(pieces []pointEdge) []int {
+	next := make([]int, len(pieces))
+	for i, p := range pieces {
 		next[i] = -1
-		for j, o := range border {
-			if o.a.cmp(p.b) == 0 && (next[i] < 0 || clockwiseTo(p, o).Cmp(clockwiseTo(p, border[next[i]])) < 0) {
+		for j, o := range pieces {
+			if o.a.cmp(p.b) == 0 && (next[i] < 0 || clockwiseTo(p, o).Cmp(clockwiseTo(p, pieces[next[i]])) < 0) {
 				next[i] = j
 			}
 		}
 	}
+	return next
+}
+
+func walkBorder(border []pointEdge) [][]point {
+	next := nextOf(border)
 	var loops [][]point
 	gone := make([]bool, len(border))
 	for i := range border {
@@ -218,9 +224,13 @@ func walkBorder(border []pointEdge) [][]point {
 
 func comparePoints(a, b []point) int { return slices.CompareFunc(a, b, point.cmp) }
 
-// wantOutline is false where a place is no V, or there are too many.
 func wantOutline(edges []pointEdge, inside func(point) bool) ([][]impl.V, bool) {
-	loops := walkBorder(borderOf(edges, inside))
+	return toldOutline(borderOf(edges, inside))
+}
+
+// toldOutline is false where a place is no V, or there are too many.
+func toldOutline(border []pointEdge) ([][]impl.V, bool) {
+	loops := walkBorder(border)
 	for i, loop := range loops {
 		var turns [][]point
 		for k := range loop {

@@ -241,6 +241,7 @@ func (s *shapes) shuffled(loops [][]impl.V) [][]impl.V {
 }
 
 func TestRegionsMany(t *testing.T) {
+	t.Parallel()
 	made, refused := 0, 0
 	for kind := range spotKinds {
 		s := &shapes{spots{dice(600 + kind), kind}}

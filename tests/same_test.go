@@ -36,7 +36,7 @@ func answersOf(seed uint64, text []byte) []any {
 	list = append(list, impl.CmpAlong(p[0], p[1], p[2], p[3]), impl.CmpDist(p[0], p[1], p[2]))
 	three(impl.FOrient3(p[0], p[1], p[2], p[3]))
 	three(impl.FInCircle(s[0], s[1], s[2], s[3]))
-	return slices.Concat(list, lineAnswersOf(seed), regionAnswersOf(seed))
+	return slices.Concat(list, lineAnswersOf(seed), regionAnswersOf(seed), netAnswersOf(seed), overlayAnswersOf(seed))
 }
 
 func lineAnswersOf(seed uint64) []any {
@@ -65,7 +65,32 @@ func regionAnswersOf(seed uint64) []any {
 	return list
 }
 
-const sameCalls = 300
+func netAnswersOf(seed uint64) []any {
+	s := &spots{dice(seed), int(seed % 3)}
+	segs := []impl.Seg{s.seg(), s.seg(), s.seg(), s.seg(), s.seg()}
+	net, ok := impl.Arrange(segs)
+	list := []any{net, ok}
+	two := func(x any, y any) { list = append(list, x, y) }
+	two(impl.NetParts(segs))
+	two(impl.LoopArea2(net, 0))
+	i, v, ok := impl.Above(segs, s.place())
+	return append(list, i, v, ok)
+}
+
+func overlayAnswersOf(seed uint64) []any {
+	s := &shapes{spots{dice(seed), 0}}
+	a, b, _ := s.regions()
+	list := []any{impl.Within(a, b)}
+	two := func(x any, y any) { list = append(list, x, y) }
+	two(impl.Both(a, b, 1+int64(seed%4)))
+	two(impl.All([]impl.Region{b, a}))
+	two(impl.Clip(a, s.coord(), s.coord(), s.coord()))
+	two(impl.ClipSeg(b, s.seg()))
+	two(impl.Strips(a))
+	return list
+}
+
+const sameCalls = 150
 
 func TestSameAnswers(t *testing.T) {
 	var first [sameCalls][]any
@@ -161,8 +186,41 @@ func regionCalls() map[string]func([][]impl.V) [][][]impl.V {
 			}
 			return told
 		},
+		"Both with the empty one": func(loops [][]impl.V) [][][]impl.V {
+			r, _ := impl.Both(impl.Region{Loops: loops}, impl.Region{}, impl.OpOr)
+			return [][][]impl.V{r.Loops}
+		},
+		"Both behind the empty one": func(loops [][]impl.V) [][][]impl.V {
+			r, _ := impl.Both(impl.Region{}, impl.Region{Loops: loops}, impl.OpXor)
+			return [][][]impl.V{r.Loops}
+		},
+		"Both with itself": func(loops [][]impl.V) [][][]impl.V {
+			r, _ := impl.Both(impl.Region{Loops: loops}, impl.Region{Loops: loops}, impl.OpAnd)
+			return [][][]impl.V{r.Loops}
+		},
+		"Both, less": func(loops [][]impl.V) [][][]impl.V {
+			r, _ := impl.Both(impl.Region{Loops: loops}, region(box(-1, -1, 4, 4)), impl.OpLess)
+			return [][][]impl.V{r.Loops}
+		},
+		"All": func(loops [][]impl.V) [][][]impl.V {
+			r := impl.Region{Loops: loops}
+			one, _ := impl.All([]impl.Region{r})
+			more, _ := impl.All([]impl.Region{r, {}, r, region(box(20, 0, 21, 1))})
+			return [][][]impl.V{one.Loops, more.Loops}
+		},
+		"Clip": func(loops [][]impl.V) [][][]impl.V {
+			all, _ := impl.Clip(impl.Region{Loops: loops}, q(1, 1), q(0, 1), q(99, 1))
+			some, _ := impl.Clip(impl.Region{Loops: loops}, q(1, 1), q(1, 1), q(9, 1))
+			return [][][]impl.V{all.Loops, some.Loops}
+		},
+		"Strips": func(loops [][]impl.V) [][][]impl.V {
+			list, _ := impl.Strips(impl.Region{Loops: loops})
+			return [][][]impl.V{list}
+		},
 		"the others": func(loops [][]impl.V) [][][]impl.V {
 			r := impl.Region{Loops: loops}
+			impl.Within(r, r)
+			impl.ClipSeg(r, seg(0, 0, 9, 8))
 			impl.RegionOk(r)
 			impl.Where(r, at(1, 1))
 			impl.Area2(r)
@@ -205,6 +263,121 @@ func TestRegionsShareNothing(t *testing.T) {
 			if spare := loops[:cap(loops)]; spare[len(clean)] != nil || spare[len(clean)+1] != nil {
 				t.Error(name, "writes behind the loops")
 			}
+		}
+	}
+}
+
+// copied shares nothing with n.
+func copied(n impl.Net) impl.Net {
+	n.Verts, n.Edges, n.Loops = slices.Clone(n.Verts), slices.Clone(n.Edges), slices.Clone(n.Loops)
+	for i, e := range n.Edges {
+		n.Edges[i].Owners = slices.Clone(e.Owners)
+	}
+	for i, loop := range n.Loops {
+		n.Loops[i] = slices.Clone(loop)
+	}
+	return n
+}
+
+// numberLists are the owners and the loops of n.
+func numberLists(n impl.Net) [][]int64 {
+	list := slices.Clone(n.Loops)
+	for _, e := range n.Edges {
+		list = append(list, e.Owners)
+	}
+	return list
+}
+
+// fill writes into all of the memory of a list, and tells what was there.
+func fill[T any](list []T, value T) []T {
+	list = list[:cap(list)]
+	was := slices.Clone(list)
+	for i := range list {
+		list[i] = value
+	}
+	return was
+}
+
+func TestNetsShareNothing(t *testing.T) {
+	memory := append(boxSegs(0, 0, 4, 4), seg(0, 0, 4, 4), seg(1, 1, 6, 6), seg(6, 6, 1, 1), seg(9, 9, 9, 10), seg(7, 7, 7, 8), seg(8, 8, 9, 8))
+	was := slices.Clone(memory)
+	list := memory[1 : len(memory)-2]
+	net, _ := impl.Arrange(list)
+	want := copied(net)
+	lists := numberLists(net)
+	if len(net.Loops) < 3 || len(lists) < 9 {
+		t.Fatal("too small a net", net)
+	}
+	for _, one := range lists {
+		before := fill(one, -9)
+		for _, other := range lists {
+			if len(other) > 0 && len(one) > 0 && &other[0] != &one[0] && slices.Contains(other, -9) {
+				t.Error("two lists share memory", one, other)
+			}
+		}
+		copy(one[:cap(one)], before)
+	}
+	if !sameNets(net, want) {
+		t.Error("the net is not as it was", net, want)
+	}
+	impl.NetParts(list)
+	impl.Above(list, at(1, 0))
+	if !slices.Equal(memory, was) {
+		t.Error("the segments were written into", memory)
+	}
+	for _, one := range lists {
+		fill(one, -9)
+	}
+	fill(net.Verts, at(-5, -5))
+	fill(net.Edges, impl.NetEdge{From: 55})
+	fill(net.Loops, nil)
+	if again, ok := impl.Arrange(list); !ok || !sameNets(again, want) || !slices.Equal(memory, was) {
+		t.Error("what is written into an answer is seen", again, memory)
+	}
+}
+
+func TestNetsHandedInStay(t *testing.T) {
+	net, _ := impl.Arrange(append(boxSegs(0, 0, 4, 4), seg(0, 0, 4, 4), seg(1, 1, 6, 6)))
+	// With spare room behind each list.
+	net.Verts = append(net.Verts, at(77, 77))
+	net.Loops = append(net.Loops, []int64{0, 1, 2})
+	whole := copied(net)
+	handed := net
+	handed.Verts, handed.Loops = net.Verts[:len(net.Verts)-1], net.Loops[:len(net.Loops)-1]
+	for k := int64(-1); k <= int64(len(net.Loops)); k++ {
+		first, ok1 := impl.LoopArea2(handed, k)
+		again, ok2 := impl.LoopArea2(handed, k)
+		if first != again || ok1 != ok2 || ok1 != (k >= 0 && k < int64(len(handed.Loops))) {
+			t.Error("loop", k, "goes round", first, again)
+		}
+	}
+	if !sameNets(net, whole) {
+		t.Error("the net was written into", net)
+	}
+}
+
+func TestClippedSegmentsShareNothing(t *testing.T) {
+	ring := made(t, box(0, 0, 6, 6), box(2, 2, 4, 4))
+	loops, memory := spread(ring.Loops)
+	was := slices.Clone(memory)
+	first, _ := impl.ClipSeg(impl.Region{Loops: loops}, seg(-1, 3, 7, 3))
+	want := slices.Clone(first)
+	fill(first, seg(1, 1, 2, 2))
+	if again, ok := impl.ClipSeg(impl.Region{Loops: loops}, seg(-1, 3, 7, 3)); !ok || !slices.Equal(again, want) || !slices.Equal(memory, was) {
+		t.Error("what is written into an answer is seen", again, memory)
+	}
+}
+
+func TestListOfRegionsStays(t *testing.T) {
+	list := []impl.Region{region(box(0, 0, 2, 2)), region(box(1, 1, 3, 3)), region(box(9, 9, 10, 10)), region(box(5, 5, 6, 6))}
+	all, ok := impl.All(list[:2])
+	if !ok || len(all.Loops) != 1 {
+		t.Fatal("all", all)
+	}
+	overwrite(all.Loops)
+	for i, want := range [][]impl.V{box(0, 0, 2, 2), box(1, 1, 3, 3), box(9, 9, 10, 10), box(5, 5, 6, 6)} {
+		if !sameLoops(list[i].Loops, lps(want)) {
+			t.Error("region", i, "is now", list[i])
 		}
 	}
 }
