@@ -367,6 +367,15 @@ func teeth(n int64) impl.Region {
 	return r
 }
 
+// propsAndWalls touch at all of the 99 places of the props.
+func propsAndWalls() (impl.Region, impl.Region) {
+	var props impl.Region
+	for i := range int64(33) {
+		props.Loops = append(props.Loops, lp(4*i, 0, 4*i+2, 0, 4*i+1, 10))
+	}
+	return props, region(box(-10, -5, 300, 0), box(-10, 10, 300, 15))
+}
+
 func swappedRegion(t *testing.T, r impl.Region) impl.Region {
 	t.Helper()
 	m, ok := impl.Move(r, aff(0, 1, 1, 0, 0, 0))
@@ -420,6 +429,14 @@ func TestMostEdgesOfOverlays(t *testing.T) {
 		checkCount(t, "full and more", full, other, op, want)
 	}
 	checkCount(t, "full with itself", full, full, impl.OpOr, 100)
+	// Touching places are not crossed, as many as there are.
+	props, walls := propsAndWalls()
+	comb, stops := swappedRegion(t, teeth(49)), region(lp(-5, 1, -1, 2, -5, 3), lp(-5, 11, -1, 12, -5, 13), box(1000, -10, 1010, 300))
+	for _, pair := range [][2]impl.Region{{props, walls}, {comb, stops}} {
+		checkCount(t, "touching", pair[0], pair[1], impl.OpAnd, 0)
+		checkCount(t, "touching", pair[0], pair[1], impl.OpLess, countPlaces(pair[0].Loops))
+		checkCount(t, "touching", pair[1], pair[0], impl.OpLess, countPlaces(pair[1].Loops))
+	}
 	for _, op := range ops {
 		checkCount(t, "thousands of crossings", teeth(49), swappedRegion(t, teeth(49)), op, 9999)
 	}
