@@ -36,7 +36,7 @@ func answersOf(seed uint64, text []byte) []any {
 	list = append(list, impl.CmpAlong(p[0], p[1], p[2], p[3]), impl.CmpDist(p[0], p[1], p[2]))
 	three(impl.FOrient3(p[0], p[1], p[2], p[3]))
 	three(impl.FInCircle(s[0], s[1], s[2], s[3]))
-	return slices.Concat(list, lineAnswersOf(seed), regionAnswersOf(seed), netAnswersOf(seed), overlayAnswersOf(seed))
+	return slices.Concat(list, lineAnswersOf(seed), regionAnswersOf(seed), netAnswersOf(seed), overlayAnswersOf(seed), triangleAnswersOf(seed))
 }
 
 func lineAnswersOf(seed uint64) []any {
@@ -87,6 +87,19 @@ func overlayAnswersOf(seed uint64) []any {
 	two(impl.Clip(a, s.coord(), s.coord(), s.coord()))
 	two(impl.ClipSeg(b, s.seg()))
 	two(impl.Strips(a))
+	return list
+}
+
+func triangleAnswersOf(seed uint64) []any {
+	s := &spots{dice(seed), int(seed % 2)}
+	places := s.unlike(7)
+	var list []any
+	two := func(x any, y any) { list = append(list, x, y) }
+	tris, ok := impl.Delaunay(places)
+	two(tris, ok)
+	two(impl.Ears(places[:3]))
+	two(impl.Legal(places, turnedAnywhere(places, tris, int(seed%4)), []impl.Pair{{A: 2, B: 0}, {A: 1, B: 1}}))
+	two(impl.Refine(places, q(1, 3), 2))
 	return list
 }
 
@@ -367,6 +380,45 @@ func TestClippedSegmentsShareNothing(t *testing.T) {
 		t.Error("what is written into an answer is seen", again, memory)
 	}
 }
+
+// checkStays calls with a list that has others ahead of it and behind it in memory; the answer is written into, and then
+// neither the list is another one, nor what is answered again.
+func checkStays[T, A comparable](t *testing.T, name string, list []T, other T, call func([]T) []A) {
+	t.Helper()
+	memory := slices.Concat([]T{other}, list, []T{other, other})
+	was := slices.Clone(memory)
+	handed := memory[1 : len(list)+1]
+	first := call(handed)
+	told := slices.Clone(first)
+	var nothing A
+	fill(first, nothing)
+	if !slices.Equal(memory, was) {
+		t.Error(name, "has written into", list, "or shares it:", memory)
+	}
+	if again := call(handed); len(told) == 0 || !slices.Equal(again, told) || !slices.Equal(memory, was) {
+		t.Error(name, "answers", again, "not", told)
+	}
+}
+
+func TestTrianglesShareNothing(t *testing.T) {
+	places, other := lp(0, 0, 9, 1, 8, 7, 4, 3, 1, 8), at(77, 77)
+	ears, _ := impl.Ears(places)
+	checkStays(t, "Delaunay", places, other, func(list []impl.V) []impl.Tri { return firstOf(impl.Delaunay(list)) })
+	checkStays(t, "Ears", places, other, func(list []impl.V) []impl.Tri { return firstOf(impl.Ears(list)) })
+	checkStays(t, "Legal", places, other, func(list []impl.V) []impl.Tri { return firstOf(impl.Legal(list, ears, nil)) })
+	for steps := range int64(4) {
+		checkStays(t, "Refine", places, other, func(list []impl.V) []impl.V { return firstOf(impl.Refine(list, q(1, 9), steps)) })
+	}
+	// Where nothing is turned, too; and triangles that are not in order.
+	backward := []impl.Tri{ears[2], ears[1], ears[0]}
+	all := []impl.Pair{{A: 3, B: 1}, {A: 4, B: 0}, {A: 1, B: 4}, {A: 0, B: 3}, {A: 2, B: 2}}
+	for _, fixed := range [][]impl.Pair{nil, all} {
+		checkStays(t, "Legal", backward, tri(7, 7, 7), func(list []impl.Tri) []impl.Tri { return firstOf(impl.Legal(places, list, fixed)) })
+	}
+	checkStays(t, "Legal", all, impl.Pair{A: 9, B: 9}, func(list []impl.Pair) []impl.Tri { return firstOf(impl.Legal(places, backward, list)) })
+}
+
+func firstOf[A any](list []A, _ bool) []A { return list }
 
 func TestListOfRegionsStays(t *testing.T) {
 	list := []impl.Region{region(box(0, 0, 2, 2)), region(box(1, 1, 3, 3)), region(box(9, 9, 10, 10)), region(box(5, 5, 6, 6))}
