@@ -249,6 +249,26 @@ func TestLegalEars(t *testing.T) {
 	}
 }
 
+// All places on one circle, and all triangles at place 0, which is lifted most: as many turns as there are pairs of others but two.
+func TestManyTurns(t *testing.T) {
+	var list []impl.V
+	var fan []impl.Tri
+	var order []int
+	for i := range int64(30) {
+		k := i - 15
+		x, _ := impl.QOf(25-k*k, 25+k*k)
+		y, _ := impl.QOf(10*k, 25+k*k)
+		list, order = append(list, impl.V{X: x, Y: y}), append(order, int(i))
+		if i > 1 {
+			fan = append(fan, tri(0, i-1, i))
+		}
+	}
+	got, ok, turns := checkLegal(t, list, fan, nil)
+	if !ok || !slices.Equal(got, earsInOrder(order)) || turns != 28*27/2 {
+		t.Error("a fan of 30 places", got, ok, turns)
+	}
+}
+
 // convexOf tells the corners of the hull of a loop to the left, in its order.
 func convexOf(loop []impl.V) []impl.V {
 	var list []impl.V
