@@ -36,7 +36,8 @@ func answersOf(seed uint64, text []byte) []any {
 	list = append(list, impl.CmpAlong(p[0], p[1], p[2], p[3]), impl.CmpDist(p[0], p[1], p[2]))
 	three(impl.FOrient3(p[0], p[1], p[2], p[3]))
 	three(impl.FInCircle(s[0], s[1], s[2], s[3]))
-	return slices.Concat(list, lineAnswersOf(seed), regionAnswersOf(seed), netAnswersOf(seed), overlayAnswersOf(seed), triangleAnswersOf(seed))
+	return slices.Concat(list, lineAnswersOf(seed), regionAnswersOf(seed), netAnswersOf(seed), overlayAnswersOf(seed), triangleAnswersOf(seed),
+		cellAnswersOf(seed), hullAnswersOf(seed))
 }
 
 func lineAnswersOf(seed uint64) []any {
@@ -101,6 +102,33 @@ func triangleAnswersOf(seed uint64) []any {
 	two(impl.Legal(places, turnedAnywhere(places, tris, int(seed%4)), []impl.Pair{{A: 2, B: 0}, {A: 1, B: 1}}))
 	two(impl.Refine(places, q(1, 3), 2))
 	return list
+}
+
+func cellAnswersOf(seed uint64) []any {
+	s := &spots{dice(seed), int(seed % 2)}
+	places := s.unlike(6)
+	lo, hi := s.boxAround()
+	list := []any{impl.Nearest(places, s.place())}
+	two := func(x any, y any) { list = append(list, x, y) }
+	two(impl.Cell(places, int64(seed%6), lo, hi))
+	two(impl.CellAreas(places, lo, hi))
+	two(impl.Touching(places, lo, hi))
+	return list
+}
+
+func hullAnswersOf(seed uint64) []any {
+	s := &spots{dice(seed), int(seed % spotKinds)}
+	places := s.unlike(9)
+	var list []any
+	two := func(x any, y any) { list = append(list, x, y) }
+	one, ok := impl.Hull2(places[:4])
+	two(one, ok)
+	other, ok := impl.Hull2(places)
+	two(other, ok)
+	two(impl.Mink(one, other))
+	two(impl.Width2(other))
+	i, j, far, ok := impl.Farthest(places)
+	return append(list, i, j, far, ok)
 }
 
 const sameCalls = 150
@@ -419,6 +447,45 @@ func TestTrianglesShareNothing(t *testing.T) {
 }
 
 func firstOf[A any](list []A, _ bool) []A { return list }
+
+func TestCellsShareNothing(t *testing.T) {
+	places, other, lo, hi := lp(1, 1, 3, 1, 5, 2, 1, 5, 9, 9), at(77, 77), at(0, 0), at(6, 6)
+	for i := range int64(4) {
+		checkStays(t, "Cell", places[:4], other, func(list []impl.V) []impl.V {
+			r, _ := impl.Cell(list, i, lo, hi)
+			// The loops themselves are new, too.
+			defer fill(r.Loops, nil)
+			return r.Loops[0]
+		})
+	}
+	checkStays(t, "Cell of one", places[:1], other, func(list []impl.V) []impl.V {
+		r, _ := impl.Cell(list, 0, lo, hi)
+		return r.Loops[0]
+	})
+	checkStays(t, "Nearest", places, other, func(list []impl.V) []int64 { return []int64{impl.Nearest(list, at(4, 4))} })
+	checkStays(t, "CellAreas", places, other, func(list []impl.V) []impl.Q { return firstOf(impl.CellAreas(list, lo, hi)) })
+	checkStays(t, "Touching", places, other, func(list []impl.V) []impl.Pair { return firstOf(impl.Touching(list, lo, hi)) })
+}
+
+func TestHullsShareNothing(t *testing.T) {
+	other, sq := at(77, 77), box(0, 0, 4, 4)
+	for _, places := range [][]impl.V{sq, lp(3, 3, 0, 0, 3, 3, 4, 0, 2, 1, 0, 4), lp(1, 1), lp(1, 1, 4, 4), lp(4, 4, 1, 1), lp(4, 4, 1, 1, 2, 2, 1, 1)} {
+		checkStays(t, "Hull2", places, other, func(list []impl.V) []impl.V { return firstOf(impl.Hull2(list)) })
+		checkStays(t, "Width2", places, other, func(list []impl.V) []impl.Q {
+			w, _ := impl.Width2(list)
+			return []impl.Q{w}
+		})
+	}
+	for _, loop := range [][]impl.V{sq, lp(0, 0), lp(0, 0, 5, 1), lp(0, 0, 2, 0, 0, 2)} {
+		checkStays(t, "Mink", loop, other, func(list []impl.V) []impl.V { return firstOf(impl.Mink(list, sq)) })
+		checkStays(t, "Mink", loop, other, func(list []impl.V) []impl.V { return firstOf(impl.Mink(lp(0, 0), list)) })
+		checkStays(t, "Mink with itself", loop, other, func(list []impl.V) []impl.V { return firstOf(impl.Mink(list, list)) })
+	}
+	checkStays(t, "Farthest", lp(3, 3, 0, 0, 3, 3, 4, 0, 2, 1), other, func(list []impl.V) []impl.Q {
+		_, _, far, _ := impl.Farthest(list)
+		return []impl.Q{far}
+	})
+}
 
 func TestListOfRegionsStays(t *testing.T) {
 	list := []impl.Region{region(box(0, 0, 2, 2)), region(box(1, 1, 3, 3)), region(box(9, 9, 10, 10)), region(box(5, 5, 6, 6))}
