@@ -24,7 +24,12 @@ func wantCorners(list []point, i int, lo, hi point) []point {
 		far := func(o point) bool { return square(p, o).Cmp(square(p, list[i])) < 0 }
 		return p.x.Cmp(lo.x) < 0 || p.y.Cmp(lo.y) < 0 || p.x.Cmp(hi.x) > 0 || p.y.Cmp(hi.y) > 0 || slices.ContainsFunc(list, far)
 	}
-	var corners []point
+	return roundLeft(crossingsOf(lines, isOut))
+}
+
+// crossingsOf tells where two lines cross, but for those that are out, in order.
+func crossingsOf(lines []pointEdge, isOut func(point) bool) []point {
+	var list []point
 	for k, e := range lines {
 		for _, f := range lines[:k] {
 			beside := point{plusRat(e.a.x, minusRat(f.b.x, f.a.x)), plusRat(e.a.y, minusRat(f.b.y, f.a.y))}
@@ -32,11 +37,11 @@ func wantCorners(list []point, i int, lo, hi point) []point {
 				continue
 			}
 			if p := crossing(e.a, e.b, f.a, f.b); !isOut(p) {
-				corners = append(corners, p)
+				list = append(list, p)
 			}
 		}
 	}
-	return roundLeft(sortedPoints(corners))
+	return sortedPoints(list)
 }
 
 // roundLeft puts corners of a convex loop, which are in order, so that they go round from the first one; none of those on one

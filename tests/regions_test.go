@@ -717,20 +717,14 @@ func TestLoopsThatAreNoOutline(t *testing.T) {
 }
 
 func TestBrokenRegions(t *testing.T) {
+	for _, r := range brokenRegions() {
+		if got, ok := impl.MakeRegion(r.Loops); ok || got.Loops != nil {
+			t.Fatal(r, "makes", got)
+		}
+		checkNoOutline(t, r, r.Loops)
+	}
 	clean := lps(box(0, 0, 6, 6), lp(1, 1, 1, 5, 5, 5, 5, 1))
 	for _, bad := range brokenFractions() {
-		for i := range clean {
-			for k := range clean[i] {
-				for _, v := range []impl.V{{X: bad, Y: clean[i][k].Y}, {X: clean[i][k].X, Y: bad}} {
-					loops := lps(slices.Clone(clean[0]), slices.Clone(clean[1]))
-					loops[i][k] = v
-					if r, ok := impl.MakeRegion(loops); ok || r.Loops != nil {
-						t.Fatal(loops, "make", r)
-					}
-					checkNoOutline(t, v, loops)
-				}
-			}
-		}
 		for field := range 6 {
 			m := aff(2, 1, 1, 3, 1, 1)
 			reflect.ValueOf(&m).Elem().Field(field).Set(reflect.ValueOf(bad))
@@ -741,6 +735,24 @@ func TestBrokenRegions(t *testing.T) {
 			}
 		}
 	}
+}
+
+// brokenRegions have one fraction that is not QOk, in each place of a ring.
+func brokenRegions() []impl.Region {
+	var list []impl.Region
+	clean := lps(box(0, 0, 6, 6), lp(1, 1, 1, 5, 5, 5, 5, 1))
+	for _, bad := range brokenFractions() {
+		for i, loop := range clean {
+			for k, v := range loop {
+				for _, broken := range []impl.V{{X: bad, Y: v.Y}, {X: v.X, Y: bad}} {
+					r := impl.Region{Loops: deepLoops(clean)}
+					r.Loops[i][k] = broken
+					list = append(list, r)
+				}
+			}
+		}
+	}
+	return list
 }
 
 func TestBrokenPlacesOfRegions(t *testing.T) {

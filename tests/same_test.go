@@ -37,7 +37,7 @@ func answersOf(seed uint64, text []byte) []any {
 	three(impl.FOrient3(p[0], p[1], p[2], p[3]))
 	three(impl.FInCircle(s[0], s[1], s[2], s[3]))
 	return slices.Concat(list, lineAnswersOf(seed), regionAnswersOf(seed), netAnswersOf(seed), overlayAnswersOf(seed), triangleAnswersOf(seed),
-		cellAnswersOf(seed), hullAnswersOf(seed))
+		cellAnswersOf(seed), hullAnswersOf(seed), offsetAnswersOf(seed))
 }
 
 func lineAnswersOf(seed uint64) []any {
@@ -129,6 +129,20 @@ func hullAnswersOf(seed uint64) []any {
 	two(impl.Width2(other))
 	i, j, far, ok := impl.Farthest(places)
 	return append(list, i, j, far, ok)
+}
+
+func offsetAnswersOf(seed uint64) []any {
+	s := &shapes{spots{dice(seed), 0}}
+	r, _ := impl.MakeRegion(lps(s.loop()))
+	var list []any
+	two := func(x any, y any) { list = append(list, x, y) }
+	two(impl.Grow(r, q(1, 2)))
+	two(impl.Shrink(r, q(1, 4)))
+	two(impl.Visible(r, s.place()))
+	loop := s.hullOf(6)
+	two(impl.Roof(loop, same(len(loop), q(1, 3))))
+	two(impl.Level(loop, same(len(loop), q(1, 3)), q(1, 2)))
+	return list
 }
 
 const sameCalls = 150
@@ -253,6 +267,21 @@ func regionCalls() map[string]func([][]impl.V) [][][]impl.V {
 			all, _ := impl.Clip(impl.Region{Loops: loops}, q(1, 1), q(0, 1), q(99, 1))
 			some, _ := impl.Clip(impl.Region{Loops: loops}, q(1, 1), q(1, 1), q(9, 1))
 			return [][][]impl.V{all.Loops, some.Loops}
+		},
+		"Grow": func(loops [][]impl.V) [][][]impl.V {
+			none, _ := impl.Grow(impl.Region{Loops: loops}, q(0, 1))
+			some, _ := impl.Grow(impl.Region{Loops: loops}, q(1, 4))
+			return [][][]impl.V{none.Loops, some.Loops}
+		},
+		"Shrink": func(loops [][]impl.V) [][][]impl.V {
+			none, _ := impl.Shrink(impl.Region{Loops: loops}, q(0, 1))
+			some, _ := impl.Shrink(impl.Region{Loops: loops}, q(1, 4))
+			return [][][]impl.V{none.Loops, some.Loops}
+		},
+		"Visible": func(loops [][]impl.V) [][][]impl.V {
+			part, _ := impl.Visible(impl.Region{Loops: loops}, impl.V{X: q(1, 2), Y: q(1, 2)})
+			all, _ := impl.Visible(impl.Region{Loops: loops}, impl.V{X: q(5, 2), Y: q(5, 2)})
+			return [][][]impl.V{part.Loops, all.Loops}
 		},
 		"Strips": func(loops [][]impl.V) [][][]impl.V {
 			list, _ := impl.Strips(impl.Region{Loops: loops})
@@ -485,6 +514,27 @@ func TestHullsShareNothing(t *testing.T) {
 		_, _, far, _ := impl.Farthest(list)
 		return []impl.Q{far}
 	})
+}
+
+func TestRoofsShareNothing(t *testing.T) {
+	loop, slopes := lp(0, 0, 9, 1, 8, 7, 1, 5), []impl.Q{q(1, 1), q(2, 1), q(1, 3), q(5, 2)}
+	for k := range loop {
+		checkStays(t, "Roof", loop, at(77, 77), func(list []impl.V) []impl.V { return firstOf(impl.Roof(list, slopes))[k].Loop })
+		checkStays(t, "Roof", slopes, q(77, 1), func(list []impl.Q) []impl.Q { return firstOf(impl.Roof(loop, list))[k].Tops })
+	}
+	for _, h := range []impl.Q{q(0, 1), q(1, 2), q(9, 1)} {
+		checkStays(t, "Level", loop, at(77, 77), func(list []impl.V) []impl.V { return firstOf(impl.Level(list, slopes, h)) })
+		checkStays(t, "Level", slopes, q(77, 1), func(list []impl.Q) []impl.V { return firstOf(impl.Level(loop, list, h)) })
+	}
+	told, _ := impl.Roof(loop, slopes)
+	panels, _ := impl.Roof(loop, slopes)
+	for k := range panels {
+		fill(panels[k].Loop, at(-5, -5))
+		fill(panels[k].Tops, q(-5, 1))
+		if again, ok := impl.Roof(loop, slopes); !ok || !samePanels(again, told) || !samePanels(panels[k+1:], told[k+1:]) {
+			t.Error("what is written into an answer is seen", again, panels)
+		}
+	}
 }
 
 func TestListOfRegionsStays(t *testing.T) {
