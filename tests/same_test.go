@@ -37,7 +37,7 @@ func answersOf(seed uint64, text []byte) []any {
 	three(impl.FOrient3(p[0], p[1], p[2], p[3]))
 	three(impl.FInCircle(s[0], s[1], s[2], s[3]))
 	return slices.Concat(list, lineAnswersOf(seed), regionAnswersOf(seed), netAnswersOf(seed), overlayAnswersOf(seed), triangleAnswersOf(seed),
-		cellAnswersOf(seed), hullAnswersOf(seed), offsetAnswersOf(seed))
+		cellAnswersOf(seed), hullAnswersOf(seed), offsetAnswersOf(seed), solidAnswersOf(seed))
 }
 
 func lineAnswersOf(seed uint64) []any {
@@ -143,6 +143,28 @@ func offsetAnswersOf(seed uint64) []any {
 	two(impl.Roof(loop, same(len(loop), q(1, 3))))
 	two(impl.Level(loop, same(len(loop), q(1, 3)), q(1, 2)))
 	return list
+}
+
+func solidAnswersOf(seed uint64) []any {
+	s := &shapes{spots{dice(seed), int(seed % 2)}}
+	a, b, c, d := s.place3(), s.place3(), s.place3(), s.place3()
+	p, ok := impl.PlaneOf(a, b, c)
+	list := []any{p, ok, impl.V3Ok(a), impl.PlaneOk(p), impl.Side(p, d)}
+	two := func(x any, y any) { list = append(list, x, y) }
+	two(impl.Drop(p, d))
+	two(impl.Lift(p, s.place()))
+	two(impl.Box(a, b))
+	r, _ := impl.MakeRegion(lps(s.loop()))
+	two(impl.Prism(r, q(0, 1), s.coord()))
+	two(impl.Loft([]impl.V{s.place(), s.place(), s.place()}, q(1, 2), s.unlike(4), q(-1, 3)))
+	solid, ok := impl.Hull3([]impl.V3{a, b, c, d, s.place3(), s.place3()})
+	two(solid, ok)
+	list = append(list, impl.SolidOk(solid), impl.Inside(solid, s.place3()))
+	two(impl.EdgesOf(solid))
+	two(impl.Corners(solid))
+	two(impl.MapSolid(solid, impl.Aff3{A: s.coord(), B: s.coord(), C: s.coord(), D: s.coord(), E: s.coord(), F: s.coord(), G: s.coord(), H: s.coord(), I: s.coord(), X: s.coord(), Y: s.coord(), Z: s.coord()}))
+	lo, hi, ok := impl.Bounds(solid)
+	return append(list, lo, hi, ok)
 }
 
 const sameCalls = 150
@@ -547,6 +569,130 @@ func TestListOfRegionsStays(t *testing.T) {
 	for i, want := range [][]impl.V{box(0, 0, 2, 2), box(1, 1, 3, 3), box(9, 9, 10, 10), box(5, 5, 6, 6)} {
 		if !sameLoops(list[i].Loops, lps(want)) {
 			t.Error("region", i, "is now", list[i])
+		}
+	}
+}
+
+// checkApart writes into each list of a solid that is made, and sees it in no other list, and not in what is made again.
+func checkApart(t *testing.T, name string, call func() impl.Solid) {
+	t.Helper()
+	s := call()
+	told := copySolid(s)
+	if len(s.Faces) == 0 {
+		t.Fatal(name, "is empty")
+	}
+	for i, f := range s.Faces {
+		for k, loop := range f.Region.Loops {
+			was := fill(loop, at(-5, -5))
+			for j, g := range s.Faces {
+				for l, other := range g.Region.Loops {
+					if (i != j || k != l) && !slices.Equal(other, told.Faces[j].Region.Loops[l]) {
+						t.Error(name, "shares", i, k, "with", j, l)
+					}
+				}
+			}
+			copy(loop[:cap(loop)], was)
+		}
+		loops := fill(f.Region.Loops, nil)
+		for j, g := range s.Faces {
+			if i != j && !sameLoops(g.Region.Loops, told.Faces[j].Region.Loops) {
+				t.Error(name, "shares the loops of", i, "with", j)
+			}
+		}
+		copy(f.Region.Loops, loops)
+	}
+	if !sameSolids(s, told) {
+		t.Error(name, "is not as it was", s, told)
+	}
+	for _, f := range s.Faces {
+		overwrite(f.Region.Loops)
+	}
+	fill(s.Faces, impl.Face{})
+	if again := call(); !sameSolids(again, told) {
+		t.Error(name, "is now", again, "not", told)
+	}
+}
+
+// handedSolid is s in memory of its own, with other things behind each list, and tells whether all of that is as it was.
+func handedSolid(s impl.Solid) (impl.Solid, func() bool) {
+	other := impl.Face{Plane: pl(1, 2, 3, 4), Region: region(box(7, 7, 8, 8))}
+	faces := make([]impl.Face, 0, len(s.Faces)+2)
+	var memories, clean [][]impl.V
+	for _, f := range s.Faces {
+		loops, memory := spread(f.Region.Loops)
+		faces = append(faces, impl.Face{Plane: f.Plane, Region: impl.Region{Loops: loops}})
+		memories, clean = append(memories, memory), append(clean, slices.Clone(memory))
+	}
+	faces = append(faces, other, other)
+	handed := impl.Solid{Faces: faces[:len(s.Faces)]}
+	return handed, func() bool {
+		spare := impl.Solid{Faces: faces[len(s.Faces):]}
+		return sameSolids(handed, s) && sameLoops(memories, clean) && sameSolids(spare, impl.Solid{Faces: []impl.Face{other, other}})
+	}
+}
+
+func TestSolidsShareNothing(t *testing.T) {
+	ring := made(t, box(0, 0, 6, 6), box(1, 1, 5, 5))
+	loops, memory := spread(ring.Loops)
+	was := slices.Clone(memory)
+	lo, hi := v3(0, 0, 0), v3(1, 2, 3)
+	corners := cornersOfBox(lo, hi)
+	places := append(slices.Clone(corners), v3(9, 9, 9), v3(8, 8, 8))
+	first, second := append(box(0, 0, 4, 4), at(7, 7)), append(box(1, 1, 3, 3), at(9, 9))
+	for name, call := range map[string]func() (impl.Solid, bool){
+		"Box":   func() (impl.Solid, bool) { return impl.Box(lo, hi) },
+		"Prism": func() (impl.Solid, bool) { return impl.Prism(impl.Region{Loops: loops}, q(0, 1), q(1, 1)) },
+		"Hull3": func() (impl.Solid, bool) { return impl.Hull3(places[:8]) },
+		"Loft":  func() (impl.Solid, bool) { return impl.Loft(first[:4], q(0, 1), second[:4], q(1, 1)) },
+		"Loft of one list": func() (impl.Solid, bool) {
+			return impl.Loft(first[:4], q(0, 1), first[:4], q(1, 1))
+		},
+	} {
+		checkApart(t, name, func() impl.Solid {
+			s, _ := call()
+			return s
+		})
+	}
+	if !slices.Equal(memory, was) || !sameLoops(loops, ring.Loops) || !slices.Equal(places[:8], corners) || places[8] != v3(9, 9, 9) || places[9] != v3(8, 8, 8) {
+		t.Error("what was handed in was written into")
+	}
+	if !slices.Equal(first, append(box(0, 0, 4, 4), at(7, 7))) || !slices.Equal(second, append(box(1, 1, 3, 3), at(9, 9))) {
+		t.Error("the loops of a loft were written into", first, second)
+	}
+}
+
+func TestSolidsHandedInStay(t *testing.T) {
+	for _, c := range solidCases()[1:12] {
+		clean, _ := c.of.skin()
+		s, stays := handedSolid(clean)
+		for _, m := range []impl.Aff3{identity(), aff3(0, 1, 0, 0, 1, 0, 0, 0, 0, 0, 1, 0), aff3(1, 2, 3, 4, 0, -5, 6, 7, 1, 1, 1, 8)} {
+			checkApart(t, "MapSolid of "+c.name, func() impl.Solid {
+				o, _ := impl.MapSolid(s, m)
+				return o
+			})
+		}
+		edges, _ := impl.EdgesOf(s)
+		corners, _ := impl.Corners(s)
+		lo, hi, _ := impl.Bounds(s)
+		told, toldCorners := slices.Clone(edges), slices.Clone(corners)
+		fill(edges, impl.Edge3{})
+		fill(corners, impl.V3{})
+		again, ok1 := impl.EdgesOf(s)
+		cornersAgain, ok2 := impl.Corners(s)
+		lo2, hi2, ok3 := impl.Bounds(s)
+		if !ok1 || !ok2 || !ok3 || !slices.Equal(again, told) || !slices.Equal(cornersAgain, toldCorners) || lo != lo2 || hi != hi2 {
+			t.Error(c.name, "what is written into an answer is seen", again, cornersAgain)
+		}
+		impl.Inside(s, v3(0, 0, 0))
+		if !impl.SolidOk(s) || !stays() {
+			t.Error(c.name, "was written into")
+		}
+		// What is refused is left as it was, too.
+		for _, o := range spoilt(clean) {
+			bad, stays := handedSolid(o)
+			if impl.SolidOk(bad) || !stays() {
+				t.Error(c.name, "spoilt, was written into", bad)
+			}
 		}
 	}
 }
