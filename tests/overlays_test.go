@@ -255,10 +255,9 @@ func (a sum) with(op int64, b sum) sum {
 }
 
 // lawsOf tells pairs that should be the same.
-func lawsOf(a, b, c sum) map[string][2]sum {
+func lawsOf[T interface{ with(int64, T) T }](none, a, b, c T) map[string][2]T {
 	const and, or, less, xor = impl.OpAnd, impl.OpOr, impl.OpLess, impl.OpXor
-	none := sum{impl.Region{}, true}
-	return map[string][2]sum{
+	return map[string][2]T{
 		"and over or":      {a.with(and, b.with(or, c)), a.with(and, b).with(or, a.with(and, c))},
 		"or over and":      {a.with(or, b.with(and, c)), a.with(or, b).with(and, a.with(or, c))},
 		"and over xor":     {a.with(and, b.with(xor, c)), a.with(and, b).with(xor, a.with(and, c))},
@@ -292,7 +291,7 @@ func TestLawsOfSets(t *testing.T) {
 				continue
 			}
 			a, b, c := sum{one, true}, sum{two, true}, sum{three, true}
-			for name, law := range lawsOf(a, b, c) {
+			for name, law := range lawsOf(sum{impl.Region{}, true}, a, b, c) {
 				if !law[0].fine || !law[1].fine {
 					continue
 				}

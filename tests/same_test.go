@@ -37,7 +37,7 @@ func answersOf(seed uint64, text []byte) []any {
 	three(impl.FOrient3(p[0], p[1], p[2], p[3]))
 	three(impl.FInCircle(s[0], s[1], s[2], s[3]))
 	return slices.Concat(list, lineAnswersOf(seed), regionAnswersOf(seed), netAnswersOf(seed), overlayAnswersOf(seed), triangleAnswersOf(seed),
-		cellAnswersOf(seed), hullAnswersOf(seed), offsetAnswersOf(seed), solidAnswersOf(seed))
+		cellAnswersOf(seed), hullAnswersOf(seed), offsetAnswersOf(seed), solidAnswersOf(seed), joinAnswersOf(seed))
 }
 
 func lineAnswersOf(seed uint64) []any {
@@ -165,6 +165,23 @@ func solidAnswersOf(seed uint64) []any {
 	two(impl.MapSolid(solid, impl.Aff3{A: s.coord(), B: s.coord(), C: s.coord(), D: s.coord(), E: s.coord(), F: s.coord(), G: s.coord(), H: s.coord(), I: s.coord(), X: s.coord(), Y: s.coord(), Z: s.coord()}))
 	lo, hi, ok := impl.Bounds(solid)
 	return append(list, lo, hi, ok)
+}
+
+func joinAnswersOf(seed uint64) []any {
+	s := &shapes{spots{dice(seed), 0}}
+	hull := func() impl.Solid {
+		o, _ := impl.Hull3([]impl.V3{s.place3(), s.place3(), s.place3(), s.place3(), s.place3()})
+		return o
+	}
+	a, b, p := hull(), hull(), impl.Plane{A: q(1, 1), B: s.coord(), C: s.coord(), D: s.coord()}
+	list := []any{impl.Overlap(a, b)}
+	two := func(x any, y any) { list = append(list, x, y) }
+	two(impl.Join(a, b, 1+int64(seed%4)))
+	two(impl.Gather([]impl.Solid{b, a, b}))
+	two(impl.Cut(a, p))
+	two(impl.Bevel(b, p, pl(0, 1, 0, 0), q(1, 2)))
+	two(impl.Revolve([]impl.V{at(1, 0), at(2+int64(seed%3), 1), at(1, 2)}, []impl.Q{q(0, 1), q(1, 2+int64(seed%5)), q(1, 1)}))
+	return list
 }
 
 const sameCalls = 150
@@ -693,6 +710,66 @@ func TestSolidsHandedInStay(t *testing.T) {
 			if impl.SolidOk(bad) || !stays() {
 				t.Error(c.name, "spoilt, was written into", bad)
 			}
+		}
+	}
+}
+
+func TestJoinsShareNothing(t *testing.T) {
+	hollow, _ := cubes(less(block(3, 3, 3), [3]int64{1, 1, 1})...).skin()
+	bar, _ := bx(-1, 1, 1, 5, 2, 2).skin()
+	one, stays1 := handedSolid(hollow)
+	two, stays2 := handedSolid(bar)
+	list := []impl.Solid{one, two, one, bar, hollow}
+	ts := []impl.Q{q(0, 1), q(1, 2), q(1, 1), q(5, 1), q(7, 1)}
+	profile := append(box(1, 0, 2, 1), at(9, 9))
+	for name, call := range map[string]func() (impl.Solid, bool){
+		"OpAnd":           func() (impl.Solid, bool) { return impl.Join(one, two, impl.OpAnd) },
+		"OpOr":            func() (impl.Solid, bool) { return impl.Join(one, two, impl.OpOr) },
+		"OpLess":          func() (impl.Solid, bool) { return impl.Join(one, two, impl.OpLess) },
+		"OpXor":           func() (impl.Solid, bool) { return impl.Join(two, one, impl.OpXor) },
+		"with itself":     func() (impl.Solid, bool) { return impl.Join(one, one, impl.OpOr) },
+		"with nothing":    func() (impl.Solid, bool) { return impl.Join(one, impl.Solid{}, impl.OpOr) },
+		"less nothing":    func() (impl.Solid, bool) { return impl.Join(one, impl.Solid{}, impl.OpLess) },
+		"nothing with":    func() (impl.Solid, bool) { return impl.Join(impl.Solid{}, one, impl.OpXor) },
+		"Gather":          func() (impl.Solid, bool) { return impl.Gather(list[:3]) },
+		"Gather of one":   func() (impl.Solid, bool) { return impl.Gather(list[:1]) },
+		"Cut":             func() (impl.Solid, bool) { return impl.Cut(one, planeBy(1, 1, 1, 9, 2)) },
+		"Cut beside":      func() (impl.Solid, bool) { return impl.Cut(one, pl(1, 0, 0, 9)) },
+		"Bevel":           func() (impl.Solid, bool) { return impl.Bevel(one, pl(1, 0, 0, 3), pl(0, 0, 1, 3), q(1, 2)) },
+		"Bevel by 0":      func() (impl.Solid, bool) { return impl.Bevel(one, pl(1, 0, 0, 3), pl(0, 0, 1, 3), q(0, 1)) },
+		"Revolve":         func() (impl.Solid, bool) { return impl.Revolve(profile[:4], ts[:3]) },
+		"Revolve in one":  func() (impl.Solid, bool) { return impl.Revolve(profile[:4], ts[:2]) },
+		"a later one too": func() (impl.Solid, bool) { return impl.Join(two, one, impl.OpLess) },
+	} {
+		checkApart(t, name, func() impl.Solid {
+			s, ok := call()
+			if !ok {
+				t.Error(name, "is refused")
+			}
+			return s
+		})
+		impl.Overlap(one, two)
+		if !stays1() || !stays2() {
+			t.Fatal(name, "wrote into a solid that was handed in")
+		}
+	}
+	if !slices.EqualFunc(list, []impl.Solid{hollow, bar, hollow, bar, hollow}, sameSolids) {
+		t.Error("the list of solids was written into")
+	}
+	if !slices.Equal(ts, []impl.Q{q(0, 1), q(1, 2), q(1, 1), q(5, 1), q(7, 1)}) || !slices.Equal(profile, append(box(1, 0, 2, 1), at(9, 9))) {
+		t.Error("ts or the profile were written into:", ts, profile)
+	}
+	// What is refused is left as it was, too.
+	for name, o := range spoilt(bar) {
+		bad, stays := handedSolid(o)
+		impl.Join(bad, one, impl.OpOr)
+		impl.Join(one, bad, impl.OpAnd)
+		impl.Gather([]impl.Solid{one, bad})
+		impl.Overlap(bad, bad)
+		impl.Cut(bad, pl(1, 0, 0, 1))
+		impl.Bevel(bad, pl(1, 0, 0, 1), pl(0, 1, 0, 1), q(1, 1))
+		if !stays() || !stays1() {
+			t.Error(name, "was written into")
 		}
 	}
 }
