@@ -37,7 +37,7 @@ func answersOf(seed uint64, text []byte) []any {
 	three(impl.FOrient3(p[0], p[1], p[2], p[3]))
 	three(impl.FInCircle(s[0], s[1], s[2], s[3]))
 	return slices.Concat(list, lineAnswersOf(seed), regionAnswersOf(seed), netAnswersOf(seed), overlayAnswersOf(seed), triangleAnswersOf(seed),
-		cellAnswersOf(seed), hullAnswersOf(seed), offsetAnswersOf(seed), solidAnswersOf(seed), joinAnswersOf(seed))
+		cellAnswersOf(seed), hullAnswersOf(seed), offsetAnswersOf(seed), solidAnswersOf(seed), joinAnswersOf(seed), massAnswersOf(seed))
 }
 
 func lineAnswersOf(seed uint64) []any {
@@ -181,6 +181,18 @@ func joinAnswersOf(seed uint64) []any {
 	two(impl.Cut(a, p))
 	two(impl.Bevel(b, p, pl(0, 1, 0, 0), q(1, 2)))
 	two(impl.Revolve([]impl.V{at(1, 0), at(2+int64(seed%3), 1), at(1, 2)}, []impl.Q{q(0, 1), q(1, 2+int64(seed%5)), q(1, 1)}))
+	return list
+}
+
+func massAnswersOf(seed uint64) []any {
+	s := &spots{dice(seed), int(seed % 2)}
+	solid, _ := impl.Hull3([]impl.V3{s.place3(), s.place3(), s.place3(), s.place3(), s.place3()})
+	var list []any
+	two := func(x any, y any) { list = append(list, x, y) }
+	two(impl.Mass(solid))
+	two(impl.Centre(solid))
+	two(impl.Inertia(solid, s.place3(), s.place3()))
+	two(impl.Facing(solid, s.place3()))
 	return list
 }
 
@@ -769,6 +781,35 @@ func TestJoinsShareNothing(t *testing.T) {
 		impl.Cut(bad, pl(1, 0, 0, 1))
 		impl.Bevel(bad, pl(1, 0, 0, 1), pl(0, 1, 0, 1), q(1, 1))
 		if !stays() || !stays1() {
+			t.Error(name, "was written into")
+		}
+	}
+}
+
+func TestSolidsThatAreWeighedStay(t *testing.T) {
+	weigh := func(s impl.Solid) []any {
+		m, ok1 := impl.Mass(s)
+		c, ok2 := impl.Centre(s)
+		i, ok3 := impl.Inertia(s, v3(1, 2, 3), v3(-1, 0, 2))
+		f, ok4 := impl.Facing(s, v3(1, -2, 3))
+		return []any{m, ok1, c, ok2, i, ok3, f, ok4}
+	}
+	for _, c := range solidCases() {
+		clean, _ := c.of.skin()
+		s, stays := handedSolid(clean)
+		first := weigh(s)
+		if again := weigh(s); !reflect.DeepEqual(first, again) || !reflect.DeepEqual(first, weigh(copySolid(clean))) {
+			t.Error(c.name, "answers", again, "instead of", first)
+		}
+		if !stays() {
+			t.Error(c.name, "was written into")
+		}
+	}
+	// What is refused is left as it was, too.
+	clean := skins(bx(-1, 1, 1, 5, 2, 2))[0]
+	for name, o := range spoilt(clean) {
+		bad, stays := handedSolid(o)
+		if weigh(bad); !stays() {
 			t.Error(name, "was written into")
 		}
 	}
