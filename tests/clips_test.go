@@ -162,9 +162,8 @@ func TestMostEdgesOfClips(t *testing.T) {
 	}
 }
 
-// wantClipSeg cuts s wherever an edge meets it, and puts together what has its middle in r or on its edge.
-func wantClipSeg(r impl.Region, s impl.Seg) ([]impl.Seg, bool) {
-	edges, a, b := edgesOf(pointLoops(r.Loops)), pointOf(s.A), pointOf(s.B)
+// partsIn cuts the way from a to b wherever an edge meets it, and puts together what has its middle inside or on an edge.
+func partsIn(edges []pointEdge, a, b point) []pointEdge {
 	stops := []point{a, b}
 	for _, e := range edges {
 		for _, p := range metAlong(a, b, e) {
@@ -190,6 +189,11 @@ func wantClipSeg(r impl.Region, s impl.Seg) ([]impl.Seg, bool) {
 			parts = append(parts, pointEdge{stops[i], stops[i+1]})
 		}
 	}
+	return parts
+}
+
+// toldSegs is false when an end is no V.
+func toldSegs(parts []pointEdge) ([]impl.Seg, bool) {
 	var list []impl.Seg
 	for _, p := range parts {
 		from, ok1 := p.a.place()
@@ -200,6 +204,10 @@ func wantClipSeg(r impl.Region, s impl.Seg) ([]impl.Seg, bool) {
 		list = append(list, impl.Seg{A: from, B: to})
 	}
 	return list, true
+}
+
+func wantClipSeg(r impl.Region, s impl.Seg) ([]impl.Seg, bool) {
+	return toldSegs(partsIn(edgesOf(pointLoops(r.Loops)), pointOf(s.A), pointOf(s.B)))
 }
 
 // checkClipSeg looks at both directions.

@@ -37,7 +37,7 @@ func answersOf(seed uint64, text []byte) []any {
 	three(impl.FOrient3(p[0], p[1], p[2], p[3]))
 	three(impl.FInCircle(s[0], s[1], s[2], s[3]))
 	return slices.Concat(list, lineAnswersOf(seed), regionAnswersOf(seed), netAnswersOf(seed), overlayAnswersOf(seed), triangleAnswersOf(seed),
-		cellAnswersOf(seed), hullAnswersOf(seed), offsetAnswersOf(seed), solidAnswersOf(seed), joinAnswersOf(seed), massAnswersOf(seed))
+		cellAnswersOf(seed), hullAnswersOf(seed), offsetAnswersOf(seed), solidAnswersOf(seed), joinAnswersOf(seed), massAnswersOf(seed), sliceAnswersOf(seed))
 }
 
 func lineAnswersOf(seed uint64) []any {
@@ -193,6 +193,25 @@ func massAnswersOf(seed uint64) []any {
 	two(impl.Centre(solid))
 	two(impl.Inertia(solid, s.place3(), s.place3()))
 	two(impl.Facing(solid, s.place3()))
+	return list
+}
+
+func sliceAnswersOf(seed uint64) []any {
+	s := &shapes{spots{dice(seed), 0}}
+	solid, _ := impl.Hull3([]impl.V3{s.place3(), s.place3(), s.place3(), s.place3(), s.place3()})
+	stock, _ := impl.MakeRegion(lps(s.loop()))
+	keep, _ := impl.MakeRegion(lps(s.loop()))
+	low, high, ok := impl.SliceAt(solid, s.coord())
+	list := []any{low, high, ok}
+	two := func(x any, y any) { list = append(list, x, y) }
+	two(impl.Layers(solid, s.coord(), q(1, 2), int64(seed%13)))
+	two(impl.Fill(stock, q(1, 3)))
+	path, ok := impl.Path(stock, keep, q(1, 2), q(2, 3))
+	two(path, ok)
+	moves := []impl.Seg{s.seg(), s.seg(), s.seg()}
+	two(impl.Swept(moves, q(1, 4)))
+	two(impl.Gouges(moves, keep, q(1, 1)))
+	two(impl.Gouges(path, keep, q(1, 2)))
 	return list
 }
 
@@ -812,5 +831,111 @@ func TestSolidsThatAreWeighedStay(t *testing.T) {
 		if weigh(bad); !stays() {
 			t.Error(name, "was written into")
 		}
+	}
+}
+
+// checkRegionsApart writes into each list of the regions that are told, and sees it in no other of them, and not when they are
+// told again.
+func checkRegionsApart(t *testing.T, name string, call func() []impl.Region) {
+	t.Helper()
+	told, again := call(), call()
+	if len(told) == 0 {
+		t.Fatal(name, "tells nothing")
+	}
+	for i, r := range told {
+		for k, loop := range r.Loops {
+			was := fill(loop, at(-5, -5))
+			for j, o := range told {
+				for l, other := range o.Loops {
+					if (i != j || k != l) && !slices.Equal(other, again[j].Loops[l]) {
+						t.Error(name, "shares", i, k, "with", j, l)
+					}
+				}
+			}
+			copy(loop[:cap(loop)], was)
+		}
+		loops := fill(r.Loops, nil)
+		for j, o := range told {
+			if i != j && !sameLoops(o.Loops, again[j].Loops) {
+				t.Error(name, "shares the loops of", i, "with", j)
+			}
+		}
+		copy(r.Loops, loops)
+	}
+	for _, r := range told {
+		overwrite(r.Loops)
+	}
+	fill(told, impl.Region{})
+	if later := call(); !slices.EqualFunc(later, again, func(r, o impl.Region) bool { return sameLoops(r.Loops, o.Loops) }) {
+		t.Error(name, "is now", later, "not", again)
+	}
+}
+
+func TestSlicesShareNothing(t *testing.T) {
+	for _, c := range solidCases()[1:20] {
+		clean, _ := c.of.skin()
+		s, stays := handedSolid(clean)
+		for _, z := range heightsOf(clean) {
+			checkRegionsApart(t, "SliceAt of "+c.name, func() []impl.Region {
+				low, high, _ := impl.SliceAt(s, z)
+				return []impl.Region{low, high}
+			})
+		}
+		for _, n := range []int64{1, 5, 12} {
+			checkRegionsApart(t, "Layers of "+c.name, func() []impl.Region { return firstOf(impl.Layers(s, q(-1, 2), q(1, 2), n)) })
+		}
+		if !stays() {
+			t.Error(c.name, "was written into")
+		}
+	}
+	// What is refused is left as it was, too.
+	for name, o := range spoilt(skins(bx(-1, 1, 1, 5, 2, 2))[0]) {
+		bad, stays := handedSolid(o)
+		impl.SliceAt(bad, q(3, 2))
+		impl.Layers(bad, q(0, 1), q(1, 2), 5)
+		impl.Layers(bad, q(0, 1), q(1, 2), 0)
+		if !stays() {
+			t.Error(name, "was written into")
+		}
+	}
+}
+
+func TestPathsShareNothing(t *testing.T) {
+	ring := made(t, box(0, 0, 12, 12), box(2, 2, 10, 10))
+	stock, memory1 := spread(ring.Loops)
+	kept, memory2 := spread(lps(box(5, 5, 7, 7), box(8, 0, 9, 1)))
+	was1, was2 := slices.Clone(memory1), slices.Clone(memory2)
+	one, two := impl.Region{Loops: stock}, impl.Region{Loops: kept}
+	moves, other := segs(seg(0, 0, 6, 6), seg(6, 6, 9, 0), seg(6, 6, 6, 2), seg(0, 0, 6, 6)), seg(77, 77, 78, 78)
+	for name, call := range map[string]func() []impl.Seg{
+		"Fill":           func() []impl.Seg { return firstOf(impl.Fill(one, q(1, 1))) },
+		"Path":           func() []impl.Seg { return firstOf(impl.Path(one, two, q(1, 1), q(3, 1))) },
+		"Path by 0":      func() []impl.Seg { return firstOf(impl.Path(one, two, q(0, 1), q(1, 2))) },
+		"Path of nought": func() []impl.Seg { return firstOf(impl.Path(one, impl.Region{}, q(0, 1), q(1, 2))) },
+	} {
+		first := call()
+		told := slices.Clone(first)
+		fill(first, other)
+		if again := call(); len(told) == 0 || !slices.Equal(again, told) {
+			t.Error(name, "is now", again, "not", told)
+		}
+	}
+	checkStays(t, "Gouges", moves, other, func(list []impl.Seg) []int64 { return firstOf(impl.Gouges(list, two, q(1, 1))) })
+	checkStays(t, "Swept", moves, other, func(list []impl.Seg) []impl.V {
+		r, _ := impl.Swept(list, q(1, 2))
+		// The loops themselves are new, too.
+		defer fill(r.Loops, nil)
+		return r.Loops[0]
+	})
+	checkRegionsApart(t, "Swept", func() []impl.Region {
+		r, _ := impl.Swept(roundWay(0, 0, 9, 0, 9, 9, 0, 9), q(1, 1))
+		return []impl.Region{r}
+	})
+	// What is refused is left as it was, too.
+	impl.Fill(one, q(0, 1))
+	impl.Path(two, one, q(-1, 1), q(1, 1))
+	checkNoSweep(t, "a broken tool", moves, q(2, 2))
+	if !slices.Equal(memory1, was1) || !slices.Equal(memory2, was2) || !sameLoops(stock, ring.Loops) || !sameLoops(kept, lps(box(5, 5, 7, 7), box(8, 0, 9, 1))) {
+		t.Error("what was handed in was written into")
 	}
 }
