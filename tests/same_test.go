@@ -37,7 +37,8 @@ func answersOf(seed uint64, text []byte) []any {
 	three(impl.FOrient3(p[0], p[1], p[2], p[3]))
 	three(impl.FInCircle(s[0], s[1], s[2], s[3]))
 	return slices.Concat(list, lineAnswersOf(seed), regionAnswersOf(seed), netAnswersOf(seed), overlayAnswersOf(seed), triangleAnswersOf(seed),
-		cellAnswersOf(seed), hullAnswersOf(seed), offsetAnswersOf(seed), solidAnswersOf(seed), joinAnswersOf(seed), massAnswersOf(seed), sliceAnswersOf(seed))
+		cellAnswersOf(seed), hullAnswersOf(seed), offsetAnswersOf(seed), solidAnswersOf(seed), joinAnswersOf(seed), massAnswersOf(seed), sliceAnswersOf(seed),
+		meshAnswersOf(seed), treeAnswersOf(seed))
 }
 
 func lineAnswersOf(seed uint64) []any {
@@ -213,6 +214,39 @@ func sliceAnswersOf(seed uint64) []any {
 	two(impl.Gouges(moves, keep, q(1, 1)))
 	two(impl.Gouges(path, keep, q(1, 2)))
 	return list
+}
+
+func meshAnswersOf(seed uint64) []any {
+	s := &spots{dice(seed), int(seed % 2)}
+	solid, _ := impl.Hull3([]impl.V3{s.place3(), s.place3(), s.place3(), s.place3(), s.place3()})
+	of, ok := impl.MeshOf(solid)
+	list := []any{of, ok}
+	two := func(x any, y any) { list = append(list, x, y) }
+	for _, m := range []impl.Mesh{of, s.anyMesh(3+int(seed%5), int(seed%30), 2)} {
+		list = append(list, impl.MeshOk(m))
+		two(impl.SolidOf(m))
+		two(impl.Repair(m))
+		two(impl.Subdivide(m))
+		b, ok := impl.PackMesh(m)
+		two(b, ok)
+		two(impl.ReadMesh(b))
+		two(impl.ReadMesh(b[:len(b)-int(seed%3)]))
+	}
+	return list
+}
+
+func treeAnswersOf(seed uint64) []any {
+	d := dice(seed)
+	tree, ok := impl.BuildTree(d.crates(1+int(seed%12), int(seed%crateKinds)))
+	list := []any{tree, ok, impl.TreeOk(tree)}
+	two := func(x any, y any) { list = append(list, x, y) }
+	b, from, dir := d.crates(1, 0)[0], v3(d.upTo(9), d.upTo(9), d.upTo(9)), v3(1, d.upTo(2), d.upTo(2))
+	two(impl.Overlaps(tree, b))
+	two(impl.Visited(tree, b))
+	item, k, ok := impl.FirstHit(tree, from, dir)
+	list = append(list, item, k, ok)
+	item, far, ok := impl.Closest(tree, from)
+	return append(list, item, far, ok)
 }
 
 const sameCalls = 150
@@ -937,5 +971,151 @@ func TestPathsShareNothing(t *testing.T) {
 	checkNoSweep(t, "a broken tool", moves, q(2, 2))
 	if !slices.Equal(memory1, was1) || !slices.Equal(memory2, was2) || !sameLoops(stock, ring.Loops) || !sameLoops(kept, lps(box(5, 5, 7, 7), box(8, 0, 9, 1))) {
 		t.Error("what was handed in was written into")
+	}
+}
+
+// handedMesh is m in memory of its own, with other things behind each list, and tells whether all of that is as it was.
+func handedMesh(m impl.Mesh) (impl.Mesh, func() bool) {
+	verts := slices.Concat(m.Verts, []impl.V3{v3(77, 77, 77), v3(78, 78, 78), v3(79, 79, 79)})
+	tris := slices.Concat(m.Tris, []impl.Tri{tri(7, 7, 7), tri(8, 8, 8), tri(9, 9, 9)})
+	was := impl.Mesh{Verts: slices.Clone(verts), Tris: slices.Clone(tris)}
+	return impl.Mesh{Verts: verts[:len(m.Verts)], Tris: tris[:len(m.Tris)]}, func() bool {
+		return sameMeshes(impl.Mesh{Verts: verts, Tris: tris}, was)
+	}
+}
+
+// checkMeshApart writes into each list of a mesh that is made, and sees it in no other list, and not in what is made again.
+func checkMeshApart(t *testing.T, name string, call func() impl.Mesh) {
+	t.Helper()
+	m := call()
+	told := copyMesh(m)
+	fill(m.Verts, v3(-5, -5, -5))
+	if !slices.Equal(m.Tris, told.Tris) {
+		t.Error(name, "shares its places with its triangles")
+	}
+	fill(m.Tris, tri(-5, -5, -5))
+	if again := call(); len(told.Verts) == 0 || !sameMeshes(again, told) {
+		t.Error(name, "is now", again, "not", told)
+	}
+}
+
+func TestMeshesShareNothing(t *testing.T) {
+	for _, c := range append(solidCases()[1:12], solidCases()[20:24]...) {
+		clean, _ := c.of.skin()
+		s, stays := handedSolid(clean)
+		first, _ := impl.MeshOf(s)
+		checkMeshApart(t, "MeshOf of "+c.name, func() impl.Mesh {
+			m, _ := impl.MeshOf(s)
+			return m
+		})
+		m, same := handedMesh(first)
+		checkApart(t, "SolidOf of "+c.name, func() impl.Solid {
+			o, _ := impl.SolidOf(m)
+			return o
+		})
+		for name, call := range map[string]func(impl.Mesh) (impl.Mesh, bool){"Repair": impl.Repair, "Subdivide": impl.Subdivide} {
+			if _, ok := call(m); ok {
+				checkMeshApart(t, name+" of "+c.name, func() impl.Mesh {
+					o, _ := call(m)
+					return o
+				})
+			}
+		}
+		// What is repaired already, and what has places alone.
+		repaired, _ := impl.Repair(m)
+		r, sameToo := handedMesh(repaired)
+		bare, bareSame := handedMesh(impl.Mesh{Verts: m.Verts})
+		checkMeshApart(t, "Repair again of "+c.name, func() impl.Mesh {
+			o, _ := impl.Repair(r)
+			return o
+		})
+		checkMeshApart(t, "Subdivide of the places of "+c.name, func() impl.Mesh {
+			o, _ := impl.Subdivide(bare)
+			return o
+		})
+		impl.MeshOk(m)
+		if !stays() || !same() || !sameToo() || !bareSame() {
+			t.Error(c.name, "was written into")
+		}
+	}
+	// What is refused is left as it was, too.
+	for name, o := range spoilt(skins(bx(-1, 1, 1, 5, 2, 2))[0]) {
+		bad, stays := handedSolid(o)
+		if impl.MeshOf(bad); !stays() {
+			t.Error(name, "was written into")
+		}
+	}
+	for _, o := range []impl.Mesh{meshBy([]int64{0, 0, 0}, tri(0, 1, 2)), meshBy([]int64{2, 0, 0, 1, 0, 0, 0, 0, 0}, tri(0, 1, 2), tri(1, 0, 2)), {Verts: placesInRow(201)}} {
+		bad, stays := handedMesh(o)
+		checkNotMeshOk(t, "a mesh that is none", bad)
+		if !stays() {
+			t.Error("a mesh that is none was written into")
+		}
+	}
+}
+
+func TestBytesShareNothing(t *testing.T) {
+	for name, clean := range bytesCases() {
+		m, stays := handedMesh(clean)
+		first, _ := impl.PackMesh(m)
+		told := slices.Clone(first)
+		fill(first, 99)
+		if again, ok := impl.PackMesh(m); !ok || !slices.Equal(again, told) || !stays() {
+			t.Error(name, "is packed as", again, "not", told)
+		}
+		memory := slices.Concat([]byte{83, 77, 1}, told, []byte{9, 8, 7, 6})
+		was := slices.Clone(memory)
+		handed := memory[3 : 3+len(told)]
+		if len(clean.Verts) > 0 {
+			checkMeshApart(t, "ReadMesh of "+name, func() impl.Mesh {
+				o, _ := impl.ReadMesh(handed)
+				return o
+			})
+		}
+		read, _ := impl.ReadMesh(handed)
+		// What is written into the bytes is not seen in what was read of them.
+		fill(handed[:len(handed):len(handed)], 0)
+		if !sameMeshes(read, clean) {
+			t.Error(name, "is, written into the bytes,", read)
+		}
+		copy(memory, was)
+		for n := range len(handed) {
+			impl.ReadMesh(handed[:n])
+			memory[3+n] ^= 129
+			impl.ReadMesh(handed)
+			memory[3+n] ^= 129
+		}
+		impl.ReadMesh(memory[3:])
+		if !slices.Equal(memory, was) {
+			t.Error(name, "was written into", memory)
+		}
+	}
+}
+
+func TestTreesShareNothing(t *testing.T) {
+	d := dice(41)
+	other := impl.Node{Box: crate(7, 7, 7, 8, 8, 8), Left: 7, Right: 8, Item: 9}
+	for i := range 28 {
+		list := d.crates(1+i, i%crateKinds)
+		checkStays(t, "BuildTree", list, crate(7, 7, 7, 8, 8, 8), func(list []impl.Bx) []impl.Node { return firstOf(impl.BuildTree(list)) })
+		tree, _ := impl.BuildTree(list)
+		// Boxes written into later are not seen in a tree.
+		told := slices.Clone(tree)
+		b := around(list...)
+		fill(list, impl.Bx{})
+		if !slices.Equal(tree, told) {
+			t.Error("the tree is now", tree, "not", told)
+		}
+		checkStays(t, "Overlaps", tree, other, func(tree []impl.Node) []int64 { return firstOf(impl.Overlaps(tree, b)) })
+		checkStays(t, "the others", tree, other, func(tree []impl.Node) []any {
+			n, ok1 := impl.Visited(tree, b)
+			item, k, ok2 := impl.FirstHit(tree, v3(-9, 1, 1), v3(1, 0, 0))
+			near, far, ok3 := impl.Closest(tree, v3(-9, 1, 1))
+			return []any{impl.TreeOk(tree), n, ok1, item, k, ok2, near, far, ok3}
+		})
+		// What is refused is left as it was, too.
+		bad := append(slices.Clone(tree), other)
+		checkNoTree(t, "with another node", bad)
+		impl.BuildTree(list)
 	}
 }
