@@ -156,6 +156,8 @@ func madeNames() []nameCase {
 		{"crossing", prism(0, 1, 0, 0, 2, 2, 2, 0, 0, 2), nms(4, 4, 4, 5, 4, 2, 4, 0, 4, 1, 4, 2, 4, 3, 4, 4)},
 		{"a hole by crossing", prism(0, 1, 0, 0, 6, 0, 0, 6, 2, -2, 6, 6, -2, 2), nil},
 		{"a star", hs(ft(4, impl.FtPrism, 0, 0, slices.Concat([]int64{0, 1}, star())...)), nil},
+		// The edge 1 is no more than the place (4, 0), which the slant has, too.
+		{"a place twice in a row", prism(0, 1, 0, 0, 4, 0, 4, 0, 0, 4), nms(4, 5, 4, 2, 4, 0, 4, 1, 4, 3)},
 		{"a place twice", prism(0, 1, 0, 0, 2, 0, 2, 2, 0, 0, -2, -2, -2, 0), nil},
 		{"a loop on one line", prism(0, 1, 0, 0, 1, 1, 2, 2), nil},
 	}
