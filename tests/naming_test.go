@@ -36,10 +36,11 @@ func boxPlanes(n []impl.Q) []impl.Plane {
 	return []impl.Plane{turnedPlane(at(x, n[0])), turnedPlane(at(y, n[1])), turnedPlane(at(z, n[2])), at(x, n[3]), at(y, n[4]), at(z, n[5])}
 }
 
-// hasEdge tells whether an upright plane has the edge of a loop that begins at its place k.
+// hasEdge tells whether an upright plane has the edge of a loop that begins at its place k; what is between like places is none.
 func hasEdge(p impl.Plane, loop []impl.V, k int) bool {
 	isOn := func(v impl.V) bool { return over(p, point3{rat(v.X), rat(v.Y), new(big.Rat)}).Sign() == 0 }
-	return isOn(loop[k]) && isOn(loop[(k+1)%len(loop)])
+	next := loop[(k+1)%len(loop)]
+	return loop[k] != next && isOn(loop[k]) && isOn(next)
 }
 
 func prismRole(p impl.Plane, loop []impl.V) int64 {
@@ -156,8 +157,8 @@ func madeNames() []nameCase {
 		{"crossing", prism(0, 1, 0, 0, 2, 2, 2, 0, 0, 2), nms(4, 4, 4, 5, 4, 2, 4, 0, 4, 1, 4, 2, 4, 3, 4, 4)},
 		{"a hole by crossing", prism(0, 1, 0, 0, 6, 0, 0, 6, 2, -2, 6, 6, -2, 2), nil},
 		{"a star", hs(ft(4, impl.FtPrism, 0, 0, slices.Concat([]int64{0, 1}, star())...)), nil},
-		// The edge 1 is no more than the place (4, 0), which the slant has, too.
-		{"a place twice in a row", prism(0, 1, 0, 0, 4, 0, 4, 0, 0, 4), nms(4, 5, 4, 2, 4, 0, 4, 1, 4, 3)},
+		// The edge 1 is no more than the place (4, 0), which the slant has, too: it is no side.
+		{"a place twice in a row", prism(0, 1, 0, 0, 4, 0, 4, 0, 0, 4), nms(4, 5, 4, 2, 4, 0, 4, 1, 4, 4)},
 		{"a place twice", prism(0, 1, 0, 0, 2, 0, 2, 2, 0, 0, -2, -2, -2, 0), nil},
 		{"a loop on one line", prism(0, 1, 0, 0, 1, 1, 2, 2), nil},
 	}
