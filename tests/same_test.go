@@ -38,7 +38,7 @@ func answersOf(seed uint64, text []byte) []any {
 	three(impl.FInCircle(s[0], s[1], s[2], s[3]))
 	return slices.Concat(list, lineAnswersOf(seed), regionAnswersOf(seed), netAnswersOf(seed), overlayAnswersOf(seed), triangleAnswersOf(seed),
 		cellAnswersOf(seed), hullAnswersOf(seed), offsetAnswersOf(seed), solidAnswersOf(seed), joinAnswersOf(seed), massAnswersOf(seed), sliceAnswersOf(seed),
-		meshAnswersOf(seed), treeAnswersOf(seed), sketchAnswersOf(seed), historyAnswersOf(seed))
+		meshAnswersOf(seed), treeAnswersOf(seed), sketchAnswersOf(seed), historyAnswersOf(seed), assemblyAnswersOf(seed), drawingAnswersOf(seed), scriptAnswersOf(seed))
 }
 
 func lineAnswersOf(seed uint64) []any {
