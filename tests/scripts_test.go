@@ -33,6 +33,17 @@ func checkSaid(t *testing.T, name string, pairs ...string) {
 	}
 }
 
+// checkScript wants what a whole text says.
+func checkScript(t *testing.T, name, script, want string) {
+	t.Helper()
+	if got := impl.RunScript(script); got != want {
+		t.Errorf("%s: %q says %q, not %q", name, script, got, want)
+	}
+	if other := wantSaid(script); other != want {
+		t.Errorf("%s: %q should say %q, not %q", name, script, other, want)
+	}
+}
+
 var scriptForms = []*regexp.Regexp{
 	regexp.MustCompile(`^box ([a-z])()()((?: [^ ]+){6})$`), regexp.MustCompile(`^prism ([a-z])()()((?: [^ ]+){2}(?:(?: [^ ]+){2}){3,})$`),
 	regexp.MustCompile(`^hull ([a-z])()()((?:(?: [^ ]+){3})+)$`), regexp.MustCompile(`^join ([a-z]) ([a-z]) (?:and|or|less|xor) ([a-z])()$`),
@@ -44,13 +55,18 @@ var scriptForms = []*regexp.Regexp{
 // wantSaid goes by the forms of lines.
 func wantSaid(text string) string {
 	solids, answer := map[string]impl.Solid{}, ""
-	for i, line := range strings.Split(text, "\n") {
+	lines := strings.Split(text, "\n")
+	// Behind the last line's end there is no line.
+	if last := len(lines) - 1; lines[last] == "" {
+		lines = lines[:last]
+	}
+	for i, line := range lines {
+		if i >= 60 {
+			return answer + "long\n"
+		}
 		words := strings.FieldsFunc(line, func(r rune) bool { return r == ' ' })
 		if len(words) == 0 {
 			continue
-		}
-		if i >= 60 {
-			return answer + "long\n"
 		}
 		said := wantLine(solids, strings.Join(words, " "))
 		if len(answer)+len(said)+1 > 30000 {
@@ -247,13 +263,48 @@ func TestScriptsOfManyLines(t *testing.T) {
 		{"as many as can be", strings.Repeat(line, 60), none + "none\n"}, {"the last one not ended", strings.Repeat(line, 59) + "vol a", none + "none\n"},
 		{"one more", strings.Repeat(line, 61), none + "none\n" + long}, {"many more", strings.Repeat(line, 1000), none + "none\n" + long}, {"one more, not ended", strings.Repeat(line, 60) + "vol a", none + "none\n" + long},
 		{"one that says what", strings.Repeat(line, 60) + "x\n", none + "none\n" + long},
-		{"without words at the end", strings.Repeat(line, 60) + "\n  \n\n", none + "none\n"},
+		{"without words at the end", strings.Repeat(line, 60) + "\n  \n\n", none + "none\n" + long},
 		{"without words among them", strings.Repeat(line, 30) + "\n" + strings.Repeat(line, 29), none}, {"and one more", strings.Repeat(line, 30) + "\n" + strings.Repeat(line, 30), none + long},
 		{"without words ahead", strings.Repeat("\n", 59) + line, "none\n"}, {"and one more ahead", strings.Repeat(" \n", 60) + line, long}, {"then without words again", strings.Repeat(line, 60) + "\n\n" + line, none + "none\n" + long},
-		{"nothing but lines without words", strings.Repeat("\n", 500), ""},
+		{"nothing but lines without words", strings.Repeat("\n", 60), ""}, {"more of them", strings.Repeat("\n", 61), long}, {"many more of them", strings.Repeat("\n", 500), long},
 	} {
-		if got := impl.RunScript(c.script); got != c.want || wantSaid(c.script) != c.want {
-			t.Errorf("%s: says %q, not %q", c.name, got, c.want)
+		checkScript(t, c.name, c.script, c.want)
+	}
+}
+
+// Of 60 lines the last one may be ended or not, and there is no line behind it; a line number 61 ends the script, whatever it has.
+func TestScriptsOfALineMore(t *testing.T) {
+	box := "box a 0 0 0 2 2 2"
+	for name, c := range map[string]struct{ text, said string }{
+		"a box first":            {box + "\n" + strings.Repeat("\n", 59), "ok 6\n"},
+		"a box last":             {strings.Repeat("\n", 59) + box + "\n", "ok 6\n"},
+		"a box in the middle":    {strings.Repeat(" \n", 20) + box + "\n" + strings.Repeat("  \n", 39), "ok 6\n"},
+		"boxes alone":            {strings.Repeat(box+"\n", 60), strings.Repeat("ok 6\n", 60)},
+		"none":                   {strings.Repeat("\n", 60), ""},
+		"blanks alone":           {strings.Repeat("   \n", 60), ""},
+		"a box that can't be":    {strings.Repeat("\n", 59) + "box a 0 0 0 0 0 0\n", "no\n"},
+		"a line that is none":    {"x\n" + strings.Repeat("\n", 59), "what\n"},
+		"a name without a solid": {"\nvol a\n" + strings.Repeat("\n", 58), "none\n"},
+	} {
+		checkScript(t, name+", ended", c.text, c.said)
+		// Of lines the last of which is empty, the last one is none when its end is taken off.
+		checkScript(t, name+", not ended", strings.TrimSuffix(c.text, "\n"), c.said)
+		for _, more := range []string{"\n", " ", " \n", "   ", "   \n", "vol a", "vol a\n", "  vol a  ", "x", "x\n", "\t", "\r\n", "\x00", "\n\n", " \n ", "\nvol a\n", " \n\nvol a", "vol a\n\n"} {
+			checkScript(t, fmt.Sprintf("%s, and %q", name, more), c.text+more, c.said+"long\n")
+		}
+	}
+}
+
+// Lines are counted alike, be they with words or without.
+func TestScriptsCountAllLines(t *testing.T) {
+	for count := range 70 {
+		for _, line := range []string{"\n", "  \n", "vol a\n", "x\n"} {
+			said := map[string]string{"vol a\n": "none\n", "x\n": "what\n"}[line]
+			want := strings.Repeat(said, min(count, 60))
+			if count > 60 {
+				want += "long\n"
+			}
+			checkScript(t, fmt.Sprintf("%d lines %q", count, line), strings.Repeat(line, count), want)
 		}
 	}
 }
